@@ -169,11 +169,10 @@ func TestEveryTinyBoard(t *testing.T) {
 	}
 }
 
-// invalidBoards has boards of the full game that break one rule each.
-func invalidBoards() map[string]impl.Board {
+// invalidSides has lists that can be no side of a board of the full game.
+func invalidSides() map[string][]int64 {
 	const huge = math.MaxInt64
-	some := filled(25, map[int]int64{0: 2})
-	bad := map[string][]int64{
+	return map[string][]int64{
 		"nil":                   nil,
 		"empty":                 {},
 		"one too short":         filled(24, map[int]int64{0: 2}),
@@ -191,6 +190,11 @@ func invalidBoards() map[string]impl.Board {
 		"32 bits":               filled(25, map[int]int64{0: 1 << 32}),
 		"63 bits":               filled(25, map[int]int64{0: 1 << 62, 1: 1 << 62, 2: 1 << 62, 3: 1 << 62}),
 	}
+}
+
+// invalidBoards has boards of the full game that break one rule each.
+func invalidBoards() map[string]impl.Board {
+	some := filled(25, map[int]int64{0: 2})
 	boards := map[string]impl.Board{
 		"no checkers":       {Own: make([]int64, 25), Other: make([]int64, 25)},
 		"zero value":        {},
@@ -199,7 +203,7 @@ func invalidBoards() map[string]impl.Board {
 		"shared last":       {Own: filled(25, map[int]int64{23: 15}), Other: filled(25, map[int]int64{0: 1})},
 		"lengths 24 and 26": {Own: make([]int64, 24), Other: filled(26, map[int]int64{0: 1})},
 	}
-	for name, side := range bad {
+	for name, side := range invalidSides() {
 		boards["own "+name] = impl.Board{Own: side, Other: some}
 		boards["other "+name] = impl.Board{Own: some, Other: side}
 		boards["both "+name] = impl.Board{Own: side, Other: slices.Clone(side)}
