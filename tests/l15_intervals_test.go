@@ -335,6 +335,7 @@ func TestExamplesOfWinIntervals(t *testing.T) {
 // worse, or just not.
 func TestExamplesOfChoices(t *testing.T) {
 	v := variant(6, 2, 2, 2)
+	s := solveSpreads(v)
 	r := roll(2, 1)
 	zero, half, one := exact(0, 0), exact(2, 1), exact(1, 0)
 	all := impl.Interval{High: one}
@@ -358,6 +359,7 @@ func TestExamplesOfChoices(t *testing.T) {
 		{twoEach(list(1, 4), list(0, 3)), 2, []impl.Interval{{Low: half, High: one}, {Low: exact(2, 2), High: exact(14, 2)}, {Low: exact(6, 2), High: exact(6, 2)}}, 0, impl.ErrNotFound, list(2)},
 		{twoEach(list(2, 5), list(2, 5)), 0, []impl.Interval{all, all, all, all}, 0, impl.ErrNotFound, nil},
 	} {
+		checkAllIntervals(t, s, c.b, map[string]int{})
 		list, code := impl.PlayIntervals(v, c.b, r, c.turns)
 		if !slices.Equal(list, c.want) || code != impl.ErrNone {
 			t.Errorf("%v for %d turns: %v, code %d, not %v", c.b, c.turns, list, code, c.want)
